@@ -1,0 +1,1 @@
+"""Shoepile: guests who put their shoes on a pile."""

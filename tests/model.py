@@ -1,0 +1,53 @@
+"""A slow model of the pile, written from the document, and parties to compare with it."""
+
+import itertools
+import random
+
+NAMES = ("a", "b", "c", "d", "e", "f", "g", "h", "i", "j", "k", "l")
+
+
+def happen(stays):
+    """Let a party happen tick by tick: all lifted pairs, and the pile after each tick."""
+    pile, lifted, after = [], [], {}
+    for tick in range(max([go for _, _, go in stays], default=0) + 1):
+        for name in [name for name, _, go in reversed(pile) if go == tick]:
+            place = [stay[0] for stay in pile].index(name)
+            lifted += [(name, stay[0]) for stay in reversed(pile[place + 1:])]
+            del pile[place]
+        pile += [stay for stay in stays if stay[1] == tick]
+        after[tick] = [stay[0] for stay in pile]
+    return lifted, after
+
+
+def is_quiet(stays):
+    """Whether nobody lifts anything if these alone use one pile."""
+    return not happen(stays)[0]
+
+
+def works(stays, piles):
+    """Whether nobody lifts anything with these piles."""
+    groups = [[stay for stay, own in zip(stays, piles) if own == pile] for pile in set(piles)]
+    return all(is_quiet(group) for group in groups)
+
+
+def all_parties(many, last):
+    """All lists of so many stays within the ticks from 0 to the last one."""
+    spans = list(itertools.combinations(range(last + 1), 2))
+    for chosen in itertools.product(spans, repeat=many):
+        yield tuple((name, *span) for name, span in zip(NAMES, chosen))
+
+
+def mixed_parties(many, sizes, last, seed):
+    """So many lists of stays that always are the same, with ticks that often coincide."""
+    source = random.Random(seed)
+    for _ in range(many):
+        size = source.choice(sizes)
+        spans = [sorted(source.sample(range(last + 1), 2)) for _ in range(size)]
+        names = source.sample(NAMES, size)
+        yield tuple((name, *span) for name, span in zip(names, spans))
+
+
+def ring_stays(names, start=0):
+    """Stays whose crossings are just the ring of these names, at least four, one after another."""
+    stays = [(name, start + 2 * place, start + 2 * place + 3) for place, name in enumerate(names[:-1])]
+    return tuple(stays) + ((names[-1], start + 1, start + 2 * len(names) - 2),)

@@ -1,0 +1,158 @@
+"""Point 1: what holds for every part."""
+
+import ast
+import pathlib
+import signal
+import unittest
+
+import shoepile
+from shoepile.errors import InvalidRing, InvalidStay, InvalidTick, PartyError, TooManyGuests, UnknownGuest
+from shoepile.parties import Party, all_lifting, calmest_order, change_without
+from shoepile.piles import fewest_piles, judge_ring, odd_ring, quiet_count, quiet_guests, two_piles
+from tests.model import ring_stays
+
+STAYS = (("ann", 0, 5), ("bob", 1, 7), ("cid", 2, 3), ("dan", 2, 6), ("eve", 4, 9))
+NAMES = "abcdefghijklmnopqrstuvwx"
+PURE = ("heapq", "math", "itertools", "collections")
+
+
+def answers(party):
+    """What all functions return of a party of ten guests at most."""
+    first = party.names[0]
+    ring = odd_ring(party)
+    return [party.stays, party.names, len(party), party[first], party(first), list(party.crossings()),
+            party.pile_at(2), all_lifting(party), change_without(party, first), calmest_order(party).stays,
+            two_piles(party), ring, judge_ring(party, ring), fewest_piles(party), quiet_guests(party),
+            quiet_count(party.stays)]
+
+
+class WholeTest(unittest.TestCase):
+    def test_repeated_calls_return_equal_results(self):
+        party = Party(*STAYS)
+        first = answers(party)
+        self.assertEqual(answers(party), first)
+        self.assertEqual(answers(Party(*STAYS)), first)
+
+    def test_returned_lists_and_dicts_may_be_modified(self):
+        party = Party(*STAYS)
+        first = answers(party)
+        for value in answers(party):
+            if isinstance(value, (list, dict)):
+                value.clear()
+        self.assertEqual(answers(party), first)
+        bipartite = Party(*ring_stays("abcdef"))
+        two_piles(bipartite).clear()
+        self.assertEqual(len(two_piles(bipartite)), 6)
+
+    def test_arguments_are_not_modified_or_kept(self):
+        party = Party(*STAYS)
+        ring = ["ann", "bob", "eve"]
+        self.assertEqual(judge_ring(party, ring), 3)
+        self.assertEqual(ring, ["ann", "bob", "eve"])
+        wrong = ["ann", "bob", "bob"]
+        self.assertRaises(InvalidRing, judge_ring, party, wrong)
+        self.assertEqual(wrong, ["ann", "bob", "bob"])
+        given = list(STAYS)
+        party = Party(*given)
+        given.clear()
+        comings = {"ann": 0, "bob": 2}
+        evening = Party.evening(3, **comings)
+        comings.clear()
+        self.assertEqual((party.stays, evening.names), (STAYS, ("ann", "bob")))
+
+    def test_a_call_that_raises_an_error_changes_nothing(self):
+        party = Party(*STAYS)
+        first = answers(party)
+        for error, call in (
+            (UnknownGuest, lambda: party["zed"]), (UnknownGuest, lambda: party("zed")),
+            (UnknownGuest, lambda: party - "zed"), (InvalidStay, lambda: party + party),
+            (InvalidStay, lambda: party >> -1), (InvalidTick, lambda: party.pile_at(-1)),
+            (UnknownGuest, lambda: change_without(party, "zed")), (InvalidRing, lambda: judge_ring(party, ["ann"])),
+        ):
+            with self.assertRaises(error) as caught:
+                call()
+            self.assertIsInstance(caught.exception, PartyError)
+            self.assertEqual(answers(party), first)
+
+    def test_results_are_integers(self):
+        party = Party(*STAYS)
+        for number in (len(party), party("ann"), all_lifting(party), quiet_count(STAYS), judge_ring(party, ["ann", "bob"]),
+                       *fewest_piles(party), *two_piles(Party(*STAYS[:2])).values()):
+            self.assertIs(type(number), int)
+
+    def test_only_the_package_and_plain_helpers_are_imported(self):
+        for path in sorted(pathlib.Path(shoepile.__file__).parent.glob("*.py")):
+            for node in ast.walk(ast.parse(path.read_text())):
+                self.assertNotIsInstance(node, ast.Import, path)
+                if isinstance(node, ast.ImportFrom):
+                    self.assertIn(node.module.split(".")[0], ("shoepile", *PURE), path)
+                if isinstance(node, ast.Call) and isinstance(node.func, ast.Name):
+                    self.assertNotIn(node.func.id, ("open", "input", "print", "exec", "eval", "hash", "id"), path)
+
+
+def too_long(_number, _frame):
+    raise AssertionError("this takes too long")
+
+
+class ManyGuestsTest(unittest.TestCase):
+    """24 guests: whoever goes through all their lists, or all their orders, does not come to an end."""
+
+    def setUp(self):
+        before = signal.signal(signal.SIGALRM, too_long)
+        self.addCleanup(signal.signal, signal.SIGALRM, before)
+        self.addCleanup(signal.alarm, 0)
+        signal.alarm(10)
+
+    def test_all_stays_cross(self):
+        party = Party(*[(name, place, place + 24) for place, name in enumerate(NAMES)])
+        self.assertEqual(all_lifting(party), 24 * 23 // 2)
+        self.assertEqual([party(name) for name in NAMES], list(range(23, -1, -1)))
+        self.assertEqual(list(change_without(party, "x")), list(NAMES[:-1]))
+        self.assertIsNone(two_piles(party))
+        self.assertEqual(len(odd_ring(party)), 3)
+        self.assertEqual(judge_ring(party, list(NAMES)), 2)
+        self.assertEqual(judge_ring(party, list(NAMES[:-1])), 3)
+        self.assertEqual((quiet_guests(party), quiet_count(party.stays)), (["a"], 1))
+        self.assertRaises(TooManyGuests, fewest_piles, party)
+
+    def test_two_groups_of_twelve(self):
+        inner = [(name, place, 100 - place) for place, name in enumerate(NAMES[:12])]
+        outer = [(name, 20 + place, 200 - place) for place, name in enumerate(NAMES[12:])]
+        party = Party(*inner, *outer)
+        self.assertEqual(all_lifting(party), 144)
+        self.assertEqual(two_piles(party), {name: int(name > "l") for name in NAMES})
+        self.assertIsNone(odd_ring(party))
+        self.assertEqual(quiet_guests(party), list(NAMES[:12]))
+        self.assertEqual(quiet_guests(Party(*outer, *inner)), list(NAMES[12:]))
+
+    def test_twelve_crossing_pairs(self):
+        stays = [(name, 4 * (place // 2) + place % 2, 4 * (place // 2) + place % 2 + 2)
+                 for place, name in enumerate(NAMES)]
+        party = Party(*stays)
+        self.assertEqual((all_lifting(party), quiet_count(party.stays)), (12, 12))
+        self.assertEqual(quiet_guests(party), list(NAMES[::2]))
+        self.assertEqual(two_piles(party), {name: place % 2 for place, name in enumerate(NAMES)})
+
+    def test_nobody_crosses(self):
+        party = Party(*[(name, place, 100 - place) for place, name in enumerate(NAMES)])
+        self.assertEqual((all_lifting(party), quiet_count(party.stays)), (0, 24))
+        self.assertEqual(quiet_guests(party), list(NAMES))
+        self.assertIsNone(odd_ring(party))
+
+    def test_long_rings(self):
+        odd = Party(*ring_stays(NAMES[:23]), ("x", 500, 600))
+        self.assertEqual(judge_ring(odd, odd_ring(odd)), 3)
+        self.assertEqual((len(odd_ring(odd)), quiet_count(odd.stays)), (23, 12))
+        even = Party(*ring_stays(NAMES))
+        self.assertEqual(odd_ring(even), None)
+        self.assertEqual((two_piles(even), quiet_count(even.stays)),
+                         ({name: place % 2 for place, name in enumerate(NAMES)}, 12))
+
+    def test_layers_of_crossing_stays(self):
+        stays = [(name, 7 * place % 24, 7 * place % 24 + 9) for place, name in enumerate(NAMES)]
+        party = Party(*stays)
+        chosen = quiet_guests(party)
+        self.assertEqual(len(chosen), quiet_count(party.stays))
+        self.assertEqual(all_lifting(Party(*[stay for stay in stays if stay[0] in chosen])), 0)
+        self.assertEqual(len(chosen), 3)
+        self.assertEqual(len(odd_ring(party)), 3)
