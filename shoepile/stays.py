@@ -1,4 +1,4 @@
-"""Stays, the tuples (name, come, go) of which parties are made."""
+"""Stays, the tuples (name, come, go) of which parties are made, and what is asked of their items."""
 
 LAST_TICK = 10 ** 9
 LONGEST_NAME = 8
@@ -9,10 +9,15 @@ def is_name(word):
     return 1 <= len(word) <= LONGEST_NAME and all(["a" <= letter <= "z" for letter in word])
 
 
+def is_within(number, low, high):
+    """Whether a number is an integer from a lowest to a highest one."""
+    # True and False are integers to Python, but not to this package.
+    return not isinstance(number, bool) and low <= number <= high
+
+
 def is_tick(number):
     """Whether a number is an integer from 0 to the last tick."""
-    # True and False are integers to Python, but not to this package.
-    return not isinstance(number, bool) and 0 <= number <= LAST_TICK
+    return is_within(number, 0, LAST_TICK)
 
 
 def is_stay(name, come, go):

@@ -51,3 +51,21 @@ def ring_stays(names, start=0):
     """Stays whose crossings are just the ring of these names, at least four, one after another."""
     stays = [(name, start + 2 * place, start + 2 * place + 3) for place, name in enumerate(names[:-1])]
     return tuple(stays) + ((names[-1], start + 1, start + 2 * len(names) - 2),)
+
+
+def happen_with(stays, count, choose):
+    """Let a party with several piles happen tick by tick: what happens, in order."""
+    piles, events, number = [[] for _ in range(count)], [], 0
+    for tick in range(max([go for _, _, go in stays], default=0) + 1):
+        for pile in piles:
+            for place in range(len(pile) - 1, -1, -1):
+                if pile[place][2] == tick:
+                    events.append(("go", pile[place][0], len(pile) - place - 1))
+                    del pile[place]
+        for stay in stays:
+            if stay[1] == tick:
+                chosen = choose(number, [tuple(go for _, _, go in pile) for pile in piles], stay[2])
+                piles[chosen].append(stay)
+                events.append(("come", stay[0], chosen))
+                number += 1
+    return events

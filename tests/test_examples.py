@@ -62,6 +62,52 @@ raises InvalidRing(index=1)
 [[0, 1, 2], ['a']]
 """
 
+GOINGS = r"""
+>>> from shoepile.goings import GoingObserver
+>>> observer = GoingObserver((("ann", 0), ("bob", 1), ("cid", 2)), (3, 5, 7))
+>>> [observer.way_count(), observer.see_lift(0, 0), observer.possible_guests(1), observer.see_guest(1, "ann"), observer.find_party().stays]
+[6, 2, ['ann', 'bob'], 1, (('ann', 0, 5), ('bob', 1, 7), ('cid', 2, 3))]
+
+>>> from shoepile.goings import GoingObserver
+>>> GoingObserver((("ann", 0), ("bob", 3)), (2, 3))
+raises InvalidGoings(index=1)
+"""
+
+ROUNDS = r"""
+>>> from shoepile.parties import Party
+>>> from shoepile.rounds import Repeated
+>>> repeated = Repeated(Party(("ann", 0, 5), ("bob", 1, 7)), 4)
+>>> [repeated.lifting("ann"), repeated.total(10 ** 18), repeated.lifting_in("ann", 0, 1), repeated.farthest()]
+[2, 3999999999999999997, 1, 1]
+
+>>> from shoepile.parties import Party
+>>> from shoepile.rounds import Repeated
+>>> Repeated(Party(("ann", 0, 5), ("bob", 4, 7)), 4)
+raises InvalidPeriod
+"""
+
+HABITS = r"""
+>>> from shoepile.habits import PlanHabit, TurnHabit
+>>> [PlanHabit(2)(0, [(5,), ()], 7), TurnHabit(2)(5, [(), ()], 7), TurnHabit(2).pile_count]
+[1, 1, 2]
+
+>>> from shoepile.habits import LowHabit
+>>> LowHabit(10)
+raises InvalidNumber
+
+>>> from shoepile.parties import Party
+>>> from shoepile.habits import TurnHabit, happenings
+>>> party = Party(("ann", 0, 5), ("bob", 1, 7), ("cid", 2, 3))
+>>> list(happenings(party, TurnHabit(2)))
+[('come', 'ann', 0), ('come', 'bob', 1), ('come', 'cid', 0), ('go', 'cid', 0), ('go', 'ann', 0), ('go', 'bob', 0)]
+
+>>> from shoepile.parties import Party
+>>> from shoepile.habits import Habit, LowHabit, chosen_piles, lifted_with
+>>> party = Party(("ann", 0, 5), ("bob", 1, 7), ("cid", 2, 3))
+>>> [chosen_piles(party, LowHabit(2)), lifted_with(party, LowHabit(2)), lifted_with(party, Habit(2))]
+[{'ann': 0, 'bob': 1, 'cid': 0}, 0, 1]
+"""
+
 
 def told(lines):
     """What an example gives: the value of its last line, or the error that it raises."""
@@ -89,3 +135,12 @@ class ExamplesTest(unittest.TestCase):
 
     def test_piles(self):
         self.check(PILES, 5)
+
+    def test_goings(self):
+        self.check(GOINGS, 2)
+
+    def test_rounds(self):
+        self.check(ROUNDS, 2)
+
+    def test_habits(self):
+        self.check(HABITS, 4)

@@ -6,9 +6,13 @@ import signal
 import unittest
 
 import shoepile
-from shoepile.errors import InvalidRing, InvalidStay, InvalidTick, PartyError, TooManyGuests, UnknownGuest
+from shoepile.errors import (Contradiction, InvalidNumber, InvalidRing, InvalidStay, InvalidTick, PartyError,
+                             TooManyGuests, UnknownGuest)
+from shoepile.goings import GoingObserver
+from shoepile.habits import Habit, LowHabit, PlanHabit, TurnHabit, chosen_piles, happenings, lifted_with
 from shoepile.parties import Party, all_lifting, calmest_order, change_without
 from shoepile.piles import fewest_piles, judge_ring, odd_ring, quiet_count, quiet_guests, two_piles
+from shoepile.rounds import Repeated
 from tests.model import ring_stays
 
 STAYS = (("ann", 0, 5), ("bob", 1, 7), ("cid", 2, 3), ("dan", 2, 6), ("eve", 4, 9))
@@ -24,6 +28,23 @@ def answers(party):
             party.pile_at(2), all_lifting(party), change_without(party, first), calmest_order(party).stays,
             two_piles(party), ring, judge_ring(party, ring), fewest_piles(party), quiet_guests(party),
             quiet_count(party.stays)]
+
+
+def observed():
+    """An observer of five guests with two observations."""
+    observer = GoingObserver(tuple((name, come) for name, come, _ in STAYS), (5, 6, 7, 8, 9))
+    observer.see_lift(0, 1)
+    observer.see_guest(3, "ann")
+    return observer
+
+
+def later_answers(observer, repeated, habit):
+    """What an observer of five guests, a repeated party with ann and a habit return."""
+    party = Party(*STAYS)
+    return [observer.records, observer.way_count(), observer.possible_guests(1), observer.find_party(),
+            repeated.lifting("ann"), repeated.total(7), repeated.lifting_in("ann", 6, 7), repeated.farthest(),
+            habit.pile_count, habit(3, [(5,), (4,)], 6), list(happenings(party, habit)), chosen_piles(party, habit),
+            lifted_with(party, habit)]
 
 
 class WholeTest(unittest.TestCase):
@@ -74,10 +95,43 @@ class WholeTest(unittest.TestCase):
             self.assertIsInstance(caught.exception, PartyError)
             self.assertEqual(answers(party), first)
 
+    def test_later_parts_return_equal_results_whatever_is_done_to_them(self):
+        for kind in (Habit, TurnHabit, LowHabit, PlanHabit):
+            told = observed(), Repeated(Party(*STAYS), 5), kind(2)
+            first = later_answers(*told)
+            for value in later_answers(*told):
+                if isinstance(value, (list, dict)):
+                    value.clear()
+            self.assertEqual(later_answers(*told), first)
+            self.assertEqual(later_answers(observed(), Repeated(Party(*STAYS), 5), kind(2)), first)
+
+    def test_later_parts_are_as_before_after_an_error(self):
+        observer, repeated, habit = told = observed(), Repeated(Party(*STAYS), 5), TurnHabit(2)
+        first = later_answers(*told)
+        for error, call in (
+            (Contradiction, lambda: observer.see_lift(4, 1)), (Contradiction, lambda: observer.see_guest(2, "ann")),
+            (InvalidNumber, lambda: observer.see_lift(5, 0)), (UnknownGuest, lambda: observer.see_guest(2, "zed")),
+            (InvalidNumber, lambda: observer.possible_guests(5)), (UnknownGuest, lambda: repeated.lifting("zed")),
+            (InvalidNumber, lambda: repeated.total(-1)), (InvalidNumber, lambda: repeated.lifting_in("ann", 7, 7)),
+        ):
+            with self.assertRaises(error):
+                call()
+            self.assertEqual(later_answers(*told), first)
+
+    def test_later_parts_do_not_change_parties(self):
+        party = Party(*STAYS)
+        first = answers(party)
+        Repeated(party, 5).total(9)
+        list(happenings(party, PlanHabit(3)))
+        chosen_piles(party, LowHabit(3))
+        self.assertEqual(answers(party), first)
+
     def test_results_are_integers(self):
         party = Party(*STAYS)
-        for number in (len(party), party("ann"), all_lifting(party), quiet_count(STAYS), judge_ring(party, ["ann", "bob"]),
-                       *fewest_piles(party), *two_piles(Party(*STAYS[:2])).values()):
+        later = later_answers(observed(), Repeated(party, 5), LowHabit(2))
+        for number in (len(party), party("ann"), all_lifting(party), quiet_count(STAYS),
+                       judge_ring(party, ["ann", "bob"]), *fewest_piles(party),
+                       *two_piles(Party(*STAYS[:2])).values(), later[1], *later[4:10], *later[-2].values(), later[-1]):
             self.assertIs(type(number), int)
 
     def test_only_the_package_and_plain_helpers_are_imported(self):
@@ -95,7 +149,7 @@ def too_long(_number, _frame):
 
 
 class ManyGuestsTest(unittest.TestCase):
-    """24 guests: whoever goes through all their lists, or all their orders, does not come to an end."""
+    """24 guests, 10 observed ones, many rounds: whoever goes through all lists, orders or rounds does not end."""
 
     def setUp(self):
         before = signal.signal(signal.SIGALRM, too_long)
@@ -156,3 +210,34 @@ class ManyGuestsTest(unittest.TestCase):
         self.assertEqual(all_lifting(Party(*[stay for stay in stays if stay[0] in chosen])), 0)
         self.assertEqual(len(chosen), 3)
         self.assertEqual(len(odd_ring(party)), 3)
+
+    def test_ten_observed_guests(self):
+        names = list(NAMES[:10])
+        for come in (0, 1):
+            comings = tuple((name, come * place) for place, name in enumerate(names))
+            observer = GoingObserver(comings, tuple(range(10, 20)))
+            self.assertEqual(observer.way_count(), 3628800)
+            for index in range(10):
+                self.assertEqual(observer.possible_guests(index), names)
+            self.assertIsNone(observer.find_party())
+            self.assertRaises(Contradiction, observer.see_lift, 0, 10)
+            self.assertEqual([observer.see_lift(index, 9 - index) for index in (9, 8, 7, 6)],
+                             [3628800, 1814400, 604800, 151200])
+            self.assertEqual([observer.see_guest(index, names[index]) for index in range(9)],
+                             [15120, 1680, 210, 30, 5, 1, 1, 1, 1])
+            self.assertEqual([stay[2] for stay in observer.find_party().stays], list(range(10, 20)))
+
+    def test_many_rounds(self):
+        most = 10 ** 18
+        repeated = Repeated(Party(*[(name, place, place + 24 * 20) for place, name in enumerate(NAMES)]), 24)
+        self.assertEqual(repeated.total(most) - repeated.total(most - 1), 24 * 479)
+        self.assertEqual([repeated.lifting_in("a", number, most) for number in (0, most // 2, most - 1)],
+                         [479, 479, 23])
+        self.assertEqual((repeated.lifting("x"), repeated.farthest()), (479, 20))
+
+    def test_ticks_far_apart(self):
+        party = Party(*[(name, 4 * 10 ** 7 * place, 10 ** 9) for place, name in enumerate(NAMES)])
+        for kind in (Habit, TurnHabit, LowHabit, PlanHabit):
+            self.assertEqual(lifted_with(party, kind(3)), 0)
+        self.assertEqual(list(chosen_piles(party, LowHabit(9)).values()), [place % 9 for place in range(24)])
+        self.assertEqual(set(chosen_piles(party, PlanHabit(9)).values()), {0})
