@@ -6,6 +6,12 @@ from shoepile.stays import bottom_up, is_within, lifted_from
 MOST_PILES = 9
 
 
+def check_pile_count(count):
+    """Raise InvalidNumber for a number of piles that there cannot be."""
+    if not is_within(count, 1, MOST_PILES):
+        raise InvalidNumber(f"{count} is no number of piles")
+
+
 def _first_least(numbers):
     """Return the first place of a least number."""
     return numbers.index(min(numbers))
@@ -17,8 +23,7 @@ class Habit:
     KIND = "first"
 
     def __init__(self, count):
-        if not is_within(count, 1, MOST_PILES):
-            raise InvalidNumber(f"{count} is no number of piles")
+        check_pile_count(count)
         self._pile_count = count
 
     @property

@@ -2,6 +2,7 @@
 
 import itertools
 import random
+import re
 
 NAMES = ("a", "b", "c", "d", "e", "f", "g", "h", "i", "j", "k", "l")
 
@@ -69,3 +70,65 @@ def happen_with(stays, count, choose):
                 events.append(("come", stay[0], chosen))
                 number += 1
     return events
+
+
+class SlowLive:
+    """A live pile that keeps nothing but its operations and lets all happen anew for each answer."""
+
+    def __init__(self, piles):
+        self.piles, self.done, self.undone = piles, [], []
+
+    def _there(self):
+        """The tick, the pile and (name, tick of coming) of all shoes from the bottom up, all pairs, all stays."""
+        tick, shoes, lifted, stays = 0, [], [], []
+        for word, *items in self.done:
+            if word == "wait":
+                tick += items[0]
+            elif word == "come":
+                shoes.append((items[1], items[0], tick))
+            else:
+                taken = [shoe for shoe in shoes if shoe[1] == items[0]][0]
+                above = shoes[shoes.index(taken) + 1:]
+                lifted += [shoe[1] for shoe in above if shoe[0] == taken[0]][::-1]
+                shoes.remove(taken)
+                stays.append((*taken[1:], tick))
+        return tick, shoes, lifted, stays
+
+    def state(self):
+        tick, shoes, lifted, stays = self._there()
+        standing = [tuple(name for own, name, _ in shoes if own == pile) for pile in range(self.piles)]
+        return tick, len(lifted), standing, stays, list(self.done)
+
+    def fault(self, word, *items):
+        """The name of the error that an operation raises, or None."""
+        tick, shoes, _, _ = self._there()
+        ticks = {name: come for _, name, come in shoes}
+        if word == "wait":
+            return None if 1 <= items[0] <= 10 ** 9 and tick + items[0] <= 10 ** 9 else "InvalidNumber"
+        if word == "go":
+            if items[0] not in ticks:
+                return "UnknownGuest"
+            return "TooEarly" if ticks[items[0]] == tick else None
+        if items[0] in ticks or not re.fullmatch("[a-z]{1,8}", items[0]):
+            return "InvalidName"
+        return None if items[1] in range(self.piles) else "InvalidNumber"
+
+    def perform(self, operation):
+        """Perform an operation without a fault, and return its result."""
+        before = self._there()
+        self.done.append(operation)
+        self.undone = []
+        after = self._there()
+        if operation[0] == "wait":
+            return after[0]
+        if operation[0] == "come":
+            return len([shoe for shoe in after[1] if shoe[0] == operation[2]])
+        return after[2][len(before[2]):]
+
+    def undo(self):
+        self.undone += self.done[-1:]
+        return bool(self.done) and bool(self.done.pop())
+
+    def redo(self):
+        self.done += self.undone[-1:]
+        return bool(self.undone) and bool(self.undone.pop())

@@ -108,6 +108,108 @@ raises InvalidNumber
 [{'ann': 0, 'bob': 1, 'cid': 0}, 0, 1]
 """
 
+LIVE = r"""
+>>> from shoepile.live import LivePile
+>>> live = LivePile()
+>>> [live.come("ann", 0), live.come("bob", 0), live.standing]
+[1, 2, [('ann', 'bob')]]
+
+>>> from shoepile.live import LivePile
+>>> live = LivePile()
+>>> [live.wait(3), live.now]
+[3, 3]
+
+>>> from shoepile.live import LivePile
+>>> live = LivePile.replay(1, ("come", "ann", 0), ("come", "bob", 0), ("wait", 1))
+>>> [live.go("ann"), live.lifted_pairs, live.departed]
+[['bob'], 1, [('ann', 0, 1)]]
+
+>>> from shoepile.live import LivePile
+>>> live = LivePile.replay(1, ("come", "ann", 0))
+>>> live.go("ann")
+raises TooEarly
+
+>>> from shoepile.live import LivePile
+>>> live = LivePile.replay(1, ("wait", 4))
+>>> [live.undo(), live.undo(), live.redo(), live.now]
+[True, False, True, 4]
+
+>>> from shoepile.live import LivePile
+>>> live = LivePile()
+>>> live.apply(("come", "ann", 0), ("wait", 2), ("go", "ann"))
+[1, 2, []]
+
+>>> from shoepile.live import LivePile
+>>> live = LivePile()
+>>> live.apply(("wait", 2), ("come", "ann"))
+raises InvalidOperation(index=1)
+
+>>> from shoepile.live import LivePile
+>>> LivePile.replay(2, ("come", "ann", 1)).standing
+[(), ('ann',)]
+"""
+
+NOTES = r"""
+>>> from shoepile.parties import Party
+>>> from shoepile.notes import format_party
+>>> party = Party(("ann", 0, 5), ("bob", 1, 7), ("cid", 2, 3))
+>>> format_party(party)
+'ann 0-5\nbob 1-7\ncid 2-3'
+
+>>> from shoepile.notes import parse_party
+>>> parse_party("ann 0-5").stays
+(('ann', 0, 5),)
+
+>>> from shoepile.notes import parse_party
+>>> parse_party("ann 0-05")
+raises InvalidText(row=0)
+
+>>> from shoepile.parties import Party
+>>> from shoepile.notes import chart
+>>> chart(Party(("ann", 0, 3), ("bob", 1, 4)))
+'ann     ===..   1\nbob     .===.   0'
+
+>>> from shoepile.notes import Daybook
+>>> daybook = Daybook("come ann\nwait 2\ncome bob\nwait 1\ngo ? 1")
+>>> [daybook.row_count, daybook.lifted_all]
+[5, 1]
+
+>>> from shoepile.notes import Daybook
+>>> Daybook("come ann\nwait 1\ngo ann 1")
+raises DaybookError(row=2)
+
+>>> from shoepile.notes import Daybook
+>>> daybook = Daybook("come ann\nwait 2\ncome bob\nwait 1\ngo ? 1")
+>>> daybook.filled()
+'come ann\nwait 2\ncome bob\nwait 1\ngo ann 1'
+
+>>> from shoepile.notes import Daybook
+>>> daybook = Daybook("come ann\nwait 2\ncome bob\nwait 1\ngo ? 1")
+>>> live = daybook.finish()
+>>> [live.standing, live.now]
+[[('bob',)], 3]
+
+>>> from shoepile.notes import Daybook
+>>> daybook = Daybook("come ann\nwait 2\ncome bob\nwait 1\ngo ? 1")
+>>> daybook.party_of().stays
+(('ann', 0, 3),)
+"""
+
+CODES = r"""
+>>> from shoepile.parties import Party
+>>> from shoepile.codes import encode_party
+>>> encode_party(Party(("ab", 1, 4)))
+[115, 1, 2, 1, 2, 1, 4, 423]
+
+>>> from shoepile.codes import decode_party
+>>> decode_party([115, 1, 2, 1, 2, 1, 4, 423]).stays
+(('ab', 1, 4),)
+
+>>> from shoepile.codes import decode_party
+>>> decode_party([115, 1, 9])
+raises DecodeError(offset=2)
+"""
+
 
 def told(lines):
     """What an example gives: the value of its last line, or the error that it raises."""
@@ -144,3 +246,12 @@ class ExamplesTest(unittest.TestCase):
 
     def test_habits(self):
         self.check(HABITS, 4)
+
+    def test_live(self):
+        self.check(LIVE, 8)
+
+    def test_notes(self):
+        self.check(NOTES, 9)
+
+    def test_codes(self):
+        self.check(CODES, 3)

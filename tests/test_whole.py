@@ -6,17 +6,24 @@ import signal
 import unittest
 
 import shoepile
-from shoepile.errors import (Contradiction, InvalidNumber, InvalidRing, InvalidStay, InvalidTick, PartyError,
-                             TooManyGuests, UnknownGuest)
+from shoepile.codes import decode_party, encode_party
+from shoepile.errors import (Contradiction, DaybookError, DecodeError, InvalidName, InvalidNumber, InvalidOperation,
+                             InvalidRing, InvalidStay, InvalidText, InvalidTick, PartyError, TooEarly, TooManyGuests,
+                             TooWide, UnknownGuest)
 from shoepile.goings import GoingObserver
 from shoepile.habits import Habit, LowHabit, PlanHabit, TurnHabit, chosen_piles, happenings, lifted_with
+from shoepile.live import LivePile, Trial
+from shoepile.notes import Daybook, chart, format_party, parse_party
 from shoepile.parties import Party, all_lifting, calmest_order, change_without
 from shoepile.piles import fewest_piles, judge_ring, odd_ring, quiet_count, quiet_guests, two_piles
 from shoepile.rounds import Repeated
+from tests.live_helpers import course, state
 from tests.model import ring_stays
 
 STAYS = (("ann", 0, 5), ("bob", 1, 7), ("cid", 2, 3), ("dan", 2, 6), ("eve", 4, 9))
 NAMES = "abcdefghijklmnopqrstuvwx"
+OPERATIONS = (("come", "ann", 0), ("come", "bob", 1), ("come", "cid", 0), ("wait", 3), ("go", "ann"), ("wait", 1))
+TEXT = "come ann\ncome bob\nwait 3\ngo ? 1\ngo bob ?\ncome ann"
 PURE = ("heapq", "math", "itertools", "collections")
 
 
@@ -45,6 +52,21 @@ def later_answers(observer, repeated, habit):
             repeated.lifting("ann"), repeated.total(7), repeated.lifting_in("ann", 6, 7), repeated.farthest(),
             habit.pile_count, habit(3, [(5,), (4,)], 6), list(happenings(party, habit)), chosen_piles(party, habit),
             lifted_with(party, habit)]
+
+
+def last_answers(party, live, daybook):
+    """What live piles, texts and codes return of a party, a live pile and a daybook."""
+    code = encode_party(party)
+    return [*state(live), course(live), format_party(party), parse_party(format_party(party)).stays, chart(party),
+            daybook.row_count, daybook.lifted_all, daybook.filled(), state(daybook.finish()),
+            daybook.party_of().stays, code, decode_party(list(code)).stays]
+
+
+def last_three():
+    """A party, a live pile of which the last operation was reverted, and a daybook."""
+    live = LivePile.replay(2, *OPERATIONS)
+    live.undo()
+    return Party(*STAYS), live, Daybook(TEXT)
 
 
 class WholeTest(unittest.TestCase):
@@ -126,12 +148,58 @@ class WholeTest(unittest.TestCase):
         chosen_piles(party, LowHabit(3))
         self.assertEqual(answers(party), first)
 
+    def test_last_parts_return_equal_results_whatever_is_done_to_them(self):
+        told = last_three()
+        first = last_answers(*told)
+        for value in last_answers(*told):
+            if isinstance(value, list):
+                value.clear()
+        self.assertEqual(last_answers(*told), first)
+        self.assertEqual(last_answers(*last_three()), first)
+
+    def test_last_parts_are_as_before_after_an_error(self):
+        party, live, daybook = told = last_three()
+        first = last_answers(*told)
+        for error, call in (
+            (InvalidName, lambda: live.come("bob", 7)), (InvalidNumber, lambda: live.come("dan", 2)),
+            (UnknownGuest, lambda: live.go("zed")), (InvalidNumber, lambda: live.wait(0)),
+            (InvalidOperation, lambda: live.apply(("wait", 1), ("wait",))),
+            (TooEarly, lambda: live.apply(("come", "eve", 0), ("go", "eve"))),
+            (InvalidStay, lambda: parse_party("ann 5-5")), (InvalidText, lambda: parse_party("ann")),
+            (TooWide, lambda: chart(party >> 99)), (DaybookError, lambda: Daybook("wait 0")),
+            (DecodeError, lambda: decode_party([])),
+        ):
+            with self.assertRaises(error) as caught:
+                call()
+            self.assertIsInstance(caught.exception, PartyError)
+            self.assertEqual(last_answers(*told), first)
+        again = Daybook(TEXT + "\nwait 1\ngo ann 0")
+        for _ in range(2):
+            self.assertRaises(InvalidStay, again.party_of)
+            self.assertEqual((again.row_count, again.lifted_all), (8, 1))
+
+    def test_last_parts_do_not_keep_their_arguments(self):
+        code = encode_party(Party(*STAYS))
+        party = decode_party(code)
+        code.clear()
+        self.assertEqual(party.stays, STAYS)
+        operations = list(OPERATIONS)
+        live = LivePile.replay(2, *operations)
+        operations.clear()
+        self.assertEqual(live.history, list(OPERATIONS))
+
     def test_results_are_integers(self):
         party = Party(*STAYS)
         later = later_answers(observed(), Repeated(party, 5), LowHabit(2))
         for number in (len(party), party("ann"), all_lifting(party), quiet_count(STAYS),
                        judge_ring(party, ["ann", "bob"]), *fewest_piles(party),
                        *two_piles(Party(*STAYS[:2])).values(), later[1], *later[4:10], *later[-2].values(), later[-1]):
+            self.assertIs(type(number), int)
+        daybook = Daybook(TEXT)
+        live = daybook.finish()
+        stays = [*daybook.party_of().stays, *parse_party("ann 0-5").stays, *decode_party(encode_party(party)).stays]
+        for number in (live.now, live.lifted_pairs, live.come("bob", 0), live.wait(3), daybook.row_count,
+                       daybook.lifted_all, *encode_party(party), *[tick for stay in stays for tick in stay[1:]]):
             self.assertIs(type(number), int)
 
     def test_only_the_package_and_plain_helpers_are_imported(self):
@@ -241,3 +309,21 @@ class ManyGuestsTest(unittest.TestCase):
             self.assertEqual(lifted_with(party, kind(3)), 0)
         self.assertEqual(list(chosen_piles(party, LowHabit(9)).values()), [place % 9 for place in range(24)])
         self.assertEqual(set(chosen_piles(party, PlanHabit(9)).values()), {0})
+
+    def test_a_long_live_pile(self):
+        live = LivePile(piles=9)
+        for turn in range(1000):
+            live.apply(("come", NAMES[turn % 24], turn % 9), ("wait", 1), ("go", NAMES[turn % 24]))
+        with Trial(live):
+            while live.undo():
+                pass
+            self.assertEqual((live.now, live.departed), (0, []))
+        self.assertEqual((live.now, len(live.departed), len(live.history)), (1000, 1000, 3000))
+
+    def test_most_guests_in_texts_and_codes(self):
+        party = Party(*[(name, place, 10 ** 9 - place) for place, name in enumerate(NAMES)])
+        self.assertEqual(parse_party(format_party(party)), party)
+        self.assertEqual(decode_party(encode_party(party)), party)
+        rows = [f"come {name}" for name in NAMES] + ["wait 9"] + [f"go ? {pairs}" for pairs in range(23, -1, -1)]
+        self.assertEqual((Daybook("\n".join(rows)).lifted_all, Daybook("\n".join(rows)).party_of().names),
+                         (24 * 23 // 2, tuple(NAMES)))
