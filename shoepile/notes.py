@@ -33,8 +33,8 @@ def format_party(party):
 
 
 def _is_stay_row(words):
-    """Whether a row is formed as that of a stay; its name and ticks may still make no stay."""
-    if len(words) != 2 or words[0] == "":
+    """Whether a row is formed as that of a stay; its ticks may still make no stay."""
+    if len(words) != 2 or not is_name(words[0]):
         return False
     ticks = words[1].split("-")
     return len(ticks) == 2 and all([_is_number(tick, MOST_TICK_DIGITS) for tick in ticks])

@@ -21,6 +21,12 @@ WRONG_ROWS = {
                                  "ann 0-\t5", "ann\t0-5", "ann 0-\u0665", "ann 0-\u00b2", "ann 0-\uff15", "ann 0:5"),
     "minus signs": ("ann 05", "ann 0 5", "ann 0-5-", "ann -0-5", "ann 0--5", "ann -5", "ann 0-", "ann -", "ann 0-5-6",
                     "ann 0\u20135"),
+    "words that are no names": ("Ann 0-5", "aNn 0-5", "ANN 0-5", "a1 0-5", "a1b 0-5", "7 0-5", "0-5 0-5", "a-b 0-5",
+                                "? 0-5", "a_b 0-5", "a. 0-5", "ann\t 0-5", "\tann 0-5", "ann\r 0-5", "\u00e4 0-5",
+                                "\u0430 0-5", "\uff41 0-5", "` 0-5", "{ 0-5"),
+    "more than eight letters": ("abcdefghi 0-5", "annannann 0-5", "a" * 5000 + " 0-5",
+                                "ev00000000000a 22463512-186199805"),
+    "no name, and ticks that make no stay": ("Ann 5-0", "a1 5-5", "abcdefghi 0-1000000001", "? 9999999999-5"),
 }
 
 
@@ -50,9 +56,10 @@ class FormatTest(unittest.TestCase):
 
 class ParseTest(unittest.TestCase):
     def refuses(self, error, text, **attributes):
-        with self.subTest(text), self.assertRaises(error) as caught:
-            parse_party(text)
-        self.assertEqual(vars(caught.exception), attributes)
+        with self.subTest(text):
+            with self.assertRaises(error) as caught:
+                parse_party(text)
+            self.assertEqual(vars(caught.exception), attributes)
 
     def test_ticks_of_ten_digits(self):
         self.assertEqual(parse_party("ann 0-1000000000").stays, (("ann", 0, LAST),))
@@ -72,6 +79,8 @@ class ParseTest(unittest.TestCase):
     def test_the_first_of_several_wrong_rows(self):
         self.refuses(InvalidText, "ann 0-5\nbob\ncid 1-2\ndan 01-2", row=1)
         self.refuses(InvalidText, "ann 0-05\nbob 0-5 ", row=0)
+        self.refuses(InvalidText, "ann 0-5\nBob 0-5\ncid 1-02", row=1)
+        self.refuses(InvalidText, "ann 0-5\nbob 0-05\nCid 1-2", row=1)
 
     def test_empty_rows(self):
         self.refuses(InvalidText, "\n", row=0)
@@ -85,20 +94,34 @@ class ParseTest(unittest.TestCase):
             self.refuses(InvalidText, f"ann 0-5{sign}bob 1-2", row=0)
 
     def test_stays_that_are_invalid(self):
-        for row in ("ann 5-5", "ann 6-5", "ann 0-0", "Ann 0-5", "abcdefghi 0-5", "a1 0-5", "? 0-5", "7 0-5", "a-b 0-5"):
+        for row in ("ann 5-5", "ann 6-5", "ann 5-0", "ann 0-0", "a 5-0", "abcdefgh 5-0", "ann 0-1000000001"):
             self.refuses(InvalidStay, row, index=0)
             self.refuses(InvalidStay, f"bob 0-5\n{row}", index=1)
         self.refuses(InvalidStay, "ann 0-5\nbob 0-5\nann 6-7", index=2)
+
+    def test_names_of_one_and_of_eight_letters(self):
+        text = "a 0-5\nz 0-5\nabcdefgh 0-5\nzzzzzzzz 0-5"
+        self.assertEqual(parse_party(text).names, ("a", "z", "abcdefgh", "zzzzzzzz"))
 
     def test_the_25th_stay(self):
         rows = [f"{letter} 0-5" for letter in NAMES]
         self.assertEqual(len(parse_party("\n".join(rows[:24]))), 24)
         self.refuses(InvalidStay, "\n".join(rows[:25]), index=24)
         self.refuses(InvalidText, "\n".join([*rows[:25], "z 00-5"]), row=25)
+        self.refuses(InvalidText, "\n".join([*rows[:25], "Z 0-5"]), row=25)
 
     def test_a_wrong_row_goes_before_an_invalid_stay(self):
         self.refuses(InvalidText, "ann 5-5\nbob 1-2\ncid 1-02", row=2)
         self.refuses(InvalidText, "ann 0-5\nann 0-5\n", row=2)
+        self.refuses(InvalidText, "ann 5-0\nb1 0-5", row=1)
+        self.refuses(InvalidText, "ann 0-5\nann 0-5\nBob 0-5", row=2)
+        self.refuses(InvalidText, "ann 0-1000000001\nbob 0-5\nabcdefghi 0-5", row=2)
+
+    def test_a_word_of_fourteen_signs_in_the_place_of_a_name(self):
+        rows = ["ann 169060820-466044442", "bob 15919638-287207356", "cid 280911968-357219176",
+                "dee 183951115-456930381", "ev00000000000a 22463512-186199805"]
+        self.refuses(InvalidText, "\n".join(rows), row=4)
+        self.assertEqual(parse_party("\n".join(rows[:4])).names, ("ann", "bob", "cid", "dee"))
 
 
 class ChartTest(unittest.TestCase):
